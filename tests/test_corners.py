@@ -1,0 +1,133 @@
+"""The corners that the document names."""
+
+import itertools
+import random
+import unittest
+
+import by_the_words
+from frames_made import box_regions, chance_signs, no_regions, none, signs_of_filling
+from puzzlemade.maker import make
+
+ZEROS = [0] * 81
+
+
+def all_fillings(frame):
+    rows = itertools.permutations(range(1, frame.n + 1))
+    found = []
+    for square in itertools.product(list(rows), repeat=frame.n):
+        numbers = [v for row in square for v in row]
+        fits = all(len({numbers[k] for k in unit}) == frame.n for unit in frame.units)
+        if fits and all(numbers[a] < numbers[b] for a, b in frame.signs):
+            found.append(numbers)
+    return found
+
+
+class OneFillingAlone(unittest.TestCase):
+    NUMBERS = [1, 2, 3, 2, 3, 1, 3, 1, 2]
+
+    def test_every_seed_comes_to_it(self):
+        right, down = signs_of_filling(3, self.NUMBERS)
+        frame = by_the_words.Frame(3, no_regions(3), right, down)
+        self.assertEqual(all_fillings(frame), [self.NUMBERS])
+        for seed in range(20):
+            for hardest in (1, 2):
+                answer = make(3, seed, hardest, no_regions(3), right, down, none(3))
+                left = [k for k in range(9) if answer[1 + k]]
+                self.assertEqual(answer[0], len(left))
+                self.assertEqual([answer[1 + k] for k in left], [self.NUMBERS[k] for k in left])
+                self.assertEqual(answer, by_the_words.make(3, seed, hardest, no_regions(3), right, down))
+
+
+class NothingGiven(unittest.TestCase):
+    def test_signs_say_all_once_they_are_steps(self):
+        right, down = signs_of_filling(3, OneFillingAlone.NUMBERS)
+        for hardest in (3, 4, 5, 6):
+            self.assertEqual(make(3, 8, hardest, no_regions(3), right, down, none(3)), [0] + ZEROS)
+        for hardest in (1, 2):
+            self.assertGreater(make(3, 8, hardest, no_regions(3), right, down, none(3))[0], 0)
+
+    def test_one_sign_in_the_least_square(self):
+        for right, down in (([1, 0, 0, 0], none(2)), ([0, 0, 2, 0], none(2)),
+                            (none(2), [2, 0, 0, 0]), (none(2), [0, 1, 0, 0])):
+            self.assertEqual(make(2, 3, 3, no_regions(2), right, down, none(2)), [0] + ZEROS)
+            self.assertEqual(make(2, 3, 2, no_regions(2), right, down, none(2))[0], 1)
+
+    def test_a_square_of_nine_from_its_signs(self):
+        numbers = [(r + c) % 9 + 1 for r in range(9) for c in range(9)]
+        right, down = signs_of_filling(9, numbers)
+        self.assertEqual(make(9, 1, 6, no_regions(9), right, down, none(9)), [0] + ZEROS)
+
+
+class LeastSquare(unittest.TestCase):
+    def test_all_frames(self):
+        regions = ([255] * 4, [0, 0, 1, 1], [1, 1, 0, 0], [0, 1, 0, 1], [1, 0, 1, 0], [0, 1, 1, 0], [1, 0, 0, 1])
+        for own in regions:
+            for signs in itertools.product(range(3), repeat=4):
+                right = [signs[0], 0, signs[1], 0]
+                down = [signs[2], signs[3], 0, 0]
+                for seed, hardest in ((0, 1), (1, 2), (2, 3), (3, 6)):
+                    told = by_the_words.make(2, seed, hardest, own, right, down)
+                    self.assertEqual(make(2, seed, hardest, own, right, down, none(2)), told)
+
+    def test_one_number_is_left(self):
+        for seed in range(10):
+            answer = make(2, seed, 1, no_regions(2), none(2), none(2), none(2))
+            self.assertEqual(answer[0], 1)
+            self.assertEqual(answer[5:], [0] * 77)
+
+
+class HardestOfOne(unittest.TestCase):
+    def test_signs_are_no_steps_there(self):
+        right, down = signs_of_filling(4, [1, 2, 3, 4, 2, 1, 4, 3, 3, 4, 1, 2, 4, 3, 2, 1])
+        for seed in range(5):
+            answer = make(4, seed, 1, no_regions(4), right, down, none(4))
+            self.assertEqual(answer, by_the_words.make(4, seed, 1, no_regions(4), right, down))
+            self.assertGreater(answer[0], make(4, seed, 3, no_regions(4), right, down, none(4))[0])
+
+
+class SeedOfZero(unittest.TestCase):
+    def test_seed_of_zero(self):
+        chance = random.Random(3)
+        for n in (2, 3, 4, 5):
+            for hardest in range(1, 7):
+                right, down = chance_signs(n, chance, 0.05)
+                told = by_the_words.make(n, 0, hardest, no_regions(n), right, down)
+                self.assertEqual(make(n, 0, hardest, no_regions(n), right, down, none(n)), told)
+
+
+class FarAstray(unittest.TestCase):
+    """Regions for which a walk through the cells by their own orders would hardly come to an end."""
+
+    def answer(self, n, regions, right, down, seed):
+        return make(n, seed, 4, regions, right, down, none(n))
+
+    def check_none(self, n, regions):
+        for seed in (0, 1):
+            self.assertEqual(self.answer(n, regions, none(n), none(n), seed), [-2])
+
+    def test_rows_that_are_moved_along_have_no_filling(self):
+        for n in (5, 7, 8, 9):
+            for moved in range(1, n):
+                self.check_none(n, [(k + moved) % (n * n) // n for k in range(n * n)])
+
+    def test_slants_of_an_even_square_have_no_filling(self):
+        for n in (2, 4, 6, 8):
+            self.check_none(n, [(r + c) % n for r in range(n) for c in range(n)])
+
+    def test_slants_of_an_odd_square(self):
+        for n in (3, 5, 7, 9):
+            regions = [(r + c) % n for r in range(n) for c in range(n)]
+            for seed in (0, 1):
+                self.assertGreater(self.answer(n, regions, none(n), none(n), seed)[0], 0)
+
+    def test_boxes_and_few_signs(self):
+        right = none(9)
+        down = none(9)
+        right[0] = 1
+        down[40] = 2
+        for seed in range(3):
+            self.assertGreater(self.answer(9, box_regions(9), right, down, seed)[0], 0)
+
+
+if __name__ == "__main__":
+    unittest.main()
