@@ -120,6 +120,11 @@ class FarAstray(unittest.TestCase):
             for seed in (0, 1):
                 self.assertGreater(self.answer(n, regions, none(n), none(n), seed)[0], 0)
 
+    def test_regions_that_hang_together_and_have_no_filling(self):
+        for regions in ("000000000111111222151312242553333442553734422553736444557766664777668888776688888",
+                        "000000033001111135441441335444411355422223357226223557666828857688888857666677777"):
+            self.check_none(9, [int(region) for region in regions])
+
     def test_boxes_and_few_signs(self):
         right = none(9)
         down = none(9)

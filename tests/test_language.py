@@ -15,7 +15,7 @@ NODES = (
     ast.Compare, ast.BoolOp, ast.IfExp, ast.Call, ast.keyword, ast.Attribute, ast.Subscript, ast.Slice, ast.Name,
     ast.ListComp, ast.comprehension, ast.expr_context, ast.boolop, ast.operator, ast.unaryop, ast.cmpop,
 )
-OUTSIDE = (ast.Div, ast.MatMult, ast.Is, ast.IsNot)
+OUTSIDE = (ast.Div, ast.MatMult)
 BUILT_IN = """len range enumerate zip min max sum abs sorted reversed int str bool list tuple dict set frozenset
     isinstance ord repr any all divmod KeyError ZeroDivisionError ValueError""".split()
 METHODS = """append clear copy count endswith extend find get index insert isalnum isalpha isdigit islower isspace
@@ -87,6 +87,8 @@ class Language(unittest.TestCase):
             for node in ast.walk(tree):
                 self.assertIsInstance(node, NODES, (path, getattr(node, "lineno", 0)))
                 self.assertNotIsInstance(node, OUTSIDE, path)
+                if isinstance(node, ast.Compare) and isinstance(node.ops[0], (ast.Is, ast.IsNot)):
+                    self.assertIsInstance(node.comparators[0], ast.Constant, (path, node.lineno))
                 if isinstance(node, ast.Assign):
                     self.assertEqual(len(node.targets), 1, (path, node.lineno))
                     self.assertNotIsInstance(node.targets[0], (ast.Tuple, ast.List), (path, node.lineno))

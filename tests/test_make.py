@@ -49,8 +49,8 @@ class AgainstTheWords(unittest.TestCase):
         for hardest in range(1, 7):
             made = 0
             for n in (3, 4, 5):
-                made += self.hold_for_chances(n, hardest, scattered_regions, 0, 25, 40 + hardest)
-                made += self.hold_for_chances(n, hardest, scattered_regions, 0.1, 25, 50 + hardest)
+                made += self.hold_for_chances(n, hardest, scattered_regions, 0, 10, 40 + hardest)
+                made += self.hold_for_chances(n, hardest, scattered_regions, 0.1, 10, 50 + hardest)
             self.assertGreater(made, 0)
 
     def test_six_by_six(self):
