@@ -1,4 +1,7 @@
-"""make as the document words it, step by step and with no thought of time: tests hold the program against it."""
+"""make and filling as the document words them, step by step and with no thought of time.
+
+Tests hold the program against it.
+"""
 
 from itertools import combinations
 
@@ -58,6 +61,45 @@ def first_filling(frame, orders):
         return False
 
     return numbers if fill(0) else None
+
+
+def is_filling(frame, numbers):
+    """Whether this is a filling, what is given left aside."""
+    if any(sorted(numbers[k] for k in unit) != list(range(1, frame.n + 1)) for unit in frame.units):
+        return False
+    return all(numbers[a] < numbers[b] for a, b in frame.signs)
+
+
+def fillings_with(frame, given, most):
+    """So many of the fillings in which stands what is given, or all if there are fewer."""
+    found = []
+
+    def fitting(numbers, k):
+        if numbers[k]:
+            return set()
+        least = max([numbers[a] for a, b in frame.signs if b == k], default=0)
+        greatest = min([numbers[b] for a, b in frame.signs if a == k and numbers[b]], default=frame.n + 1)
+        return set(range(least + 1, greatest)) - {numbers[p] for p in frame.peers[k]}
+
+    def choices(numbers):
+        """In each empty cell what fits there, and for each number that a unit lacks the cells that it fits in."""
+        fits = [fitting(numbers, k) for k in frame.cells]
+        for k in frame.cells:
+            if not numbers[k]:
+                yield [(k, v) for v in fits[k]]
+        for unit in frame.units:
+            for v in set(range(1, frame.n + 1)) - {numbers[k] for k in unit}:
+                yield [(k, v) for k in unit if v in fits[k]]
+
+    def fill(numbers):
+        if all(numbers):
+            found.append(numbers)
+        for k, v in min(choices(numbers), key=len, default=()):
+            if len(found) < most:
+                fill(numbers[:k] + [v] + numbers[k + 1:])
+
+    fill(list(given))
+    return [numbers for numbers in found if is_filling(frame, numbers)]
 
 
 def is_broken(frame, inside):
@@ -155,13 +197,23 @@ def leave_out(frame, numbers, cells, hardest):
     return given
 
 
+def numbers_of_seed(frame, drawing):
+    """The filling of a seed, cell by cell, or None."""
+    return first_filling(frame, [drawing.shuffle(list(range(1, frame.n + 1))) for k in frame.cells])
+
+
 def make(n, seed, hardest, regions, right, down):
     """What make answers where neither the frame nor the hardest kind is refused."""
     frame = Frame(n, regions, right, down)
     drawing = Drawing(seed)
-    orders = [drawing.shuffle(list(range(1, n + 1))) for k in frame.cells]
-    numbers = first_filling(frame, orders)
+    numbers = numbers_of_seed(frame, drawing)
     if numbers is None:
         return [-2]
     given = leave_out(frame, numbers, drawing.shuffle(list(frame.cells)), hardest)
     return [len([v for v in given if v])] + given + [0] * (81 - n * n)
+
+
+def filling(n, seed, regions, right, down):
+    """What filling answers where the frame is not refused."""
+    numbers = numbers_of_seed(Frame(n, regions, right, down), Drawing(seed))
+    return [-2] if numbers is None else [0] + numbers + [0] * (81 - n * n)

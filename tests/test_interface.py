@@ -1,4 +1,4 @@
-"""How make is called, and what it leaves as it was."""
+"""How make and filling are called, and what they leave as it was."""
 
 import contextlib
 import inspect
@@ -33,35 +33,55 @@ def frames():
     yield 1, 7, 4, [], [], [], []
 
 
+def calls():
+    """Calls of both functions by turns: each a function, its numbers, and its lists."""
+    for n, seed, hardest, *lists in frames():
+        yield maker.make, (n, seed, hardest), lists
+        yield maker.filling, (n, seed), lists
+
+
+def answers(told):
+    return [call(*numbers, *lists) for call, numbers, lists in told]
+
+
 class Interface(unittest.TestCase):
     def test_arguments(self):
         names = list(inspect.signature(maker.make).parameters)
         self.assertEqual(names, ["n", "seed", "hardest", "regions", "right", "down", "given"])
+        names = list(inspect.signature(maker.filling).parameters)
+        self.assertEqual(names, ["n", "seed", "regions", "right", "down", "given"])
         self.assertEqual(puzzlemade.__name__, "puzzlemade")
 
     def test_lists_are_as_they_were(self):
-        for n, seed, hardest, *lists in frames():
-            before = [list(numbers) for numbers in lists]
-            maker.make(n, seed, hardest, *lists)
+        for call, numbers, lists in calls():
+            before = [list(row) for row in lists]
+            call(*numbers, *lists)
             self.assertEqual(lists, before)
 
     def test_lists_are_not_changed_for_a_while_either(self):
-        for n, seed, hardest, *lists in frames():
-            told = maker.make(n, seed, hardest, *lists)
-            watched = [Untouched(numbers) for numbers in lists]
-            self.assertEqual(maker.make(n, seed, hardest, *watched), told)
+        for call, numbers, lists in calls():
+            told = call(*numbers, *lists)
+            watched = [Untouched(row) for row in lists]
+            self.assertEqual(call(*numbers, *watched), told)
+
+    def test_lists_are_not_handed_back(self):
+        for call, numbers, lists in calls():
+            answer = call(*numbers, *lists)
+            self.assertFalse([row for row in lists if row is answer])
 
     def test_nothing_is_kept(self):
-        firsts = [maker.make(*frame) for frame in frames()]
-        self.assertEqual([maker.make(*frame) for frame in frames()], firsts)
-        self.assertEqual([maker.make(*frame) for frame in reversed(list(frames()))], firsts[::-1])
+        firsts = answers(calls())
+        self.assertEqual(answers(calls()), firsts)
+        self.assertEqual(answers(list(calls())[::-1]), firsts[::-1])
+        both = list(calls())
+        self.assertEqual(answers(both[::2] + both[1::2]), firsts[::2] + firsts[1::2])
+        self.assertEqual(answers(both[1::2] + both[::2]), firsts[1::2] + firsts[::2])
         for answer in firsts:
             answer.append(77)
-        self.assertEqual([maker.make(*frame) + [77] for frame in frames()], firsts)
+        self.assertEqual([answer + [77] for answer in answers(calls())], firsts)
 
     def test_answers_are_lists_of_whole_numbers(self):
-        for frame in frames():
-            answer = maker.make(*frame)
+        for answer in answers(calls()):
             self.assertIs(type(answer), list)
             self.assertEqual({type(number) for number in answer}, {int})
             self.assertEqual(len(answer), 82 if answer[0] >= 0 else 1)
@@ -72,11 +92,15 @@ class Interface(unittest.TestCase):
         sys.stdin = None
         try:
             with contextlib.redirect_stdout(said), contextlib.redirect_stderr(said):
-                for frame in frames():
-                    maker.make(*frame)
+                answers(calls())
         finally:
             sys.stdin = stdin
         self.assertEqual(said.getvalue(), "")
+
+    def test_nothing_is_imported(self):
+        before = sorted(sys.modules)
+        answers(calls())
+        self.assertEqual(sorted(sys.modules), before)
 
     def test_calls_do_not_nest_deep(self):
         depth = len(inspect.stack())
@@ -84,9 +108,11 @@ class Interface(unittest.TestCase):
         sys.setrecursionlimit(depth + 60)
         try:
             answer = maker.make(9, 1, 6, no_regions(9), none(9), none(9), none(9))
+            told = maker.filling(9, 1, no_regions(9), none(9), none(9), none(9))
         finally:
             sys.setrecursionlimit(limit)
         self.assertEqual(len(answer), 82)
+        self.assertEqual(len(told), 82)
 
 
 if __name__ == "__main__":

@@ -86,28 +86,5 @@ class KnownAnswers(unittest.TestCase):
         self.assertEqual(sorted(hardest_kinds), [1, 2, 3, 4, 5, 6])
 
 
-class WhatHolds(unittest.TestCase):
-    def check_puzzle(self, n, seed, hardest, regions, right, down):
-        answer = make(n, seed, hardest, regions, right, down, none(n))
-        frame = by_the_words.Frame(n, regions, right, down)
-        given = answer[1:n * n + 1]
-        self.assertEqual(answer[0], n * n - given.count(0))
-        self.assertEqual(answer[n * n + 1:], [0] * (81 - n * n))
-        for kind in range(hardest, 7):
-            self.assertTrue(by_the_words.is_filled(frame, given, kind))
-        for k in range(n * n):
-            if given[k]:
-                less = given[:k] + [0] + given[k + 1:]
-                self.assertFalse(by_the_words.is_filled(frame, less, hardest))
-
-    def test_filled_by_steps_and_none_too_many(self):
-        chance = random.Random(70)
-        for hardest in range(1, 7):
-            right, down = chance_signs(4, chance, 0.1)
-            self.check_puzzle(4, 3, hardest, no_regions(4), right, down)
-            self.check_puzzle(5, 4, hardest, no_regions(5), none(5), none(5))
-            self.check_puzzle(6, 5, hardest, box_regions(6), none(6), none(6))
-
-
 if __name__ == "__main__":
     unittest.main()

@@ -1,9 +1,9 @@
-"""The refusals of make: each by itself, and of several the one that is told first."""
+"""The refusals of both calls: each by itself, and of several the one that is told first."""
 
 import unittest
 
 from frames_made import box_regions, no_regions, none
-from puzzlemade.maker import make
+from puzzlemade.maker import filling, make
 
 
 def frame_of_four():
@@ -24,33 +24,63 @@ WRONG_HARDEST = {"hardest": 7}
 NO_FILLING = {"right": [1, 0, 0, 0, 2] + [0] * 11, "down": [2, 1] + [0] * 14}
 
 
+def changed_frame(changes):
+    frame = frame_of_four()
+    for change in changes:
+        frame.update(change)
+    return frame
+
+
+def filling_of(frame):
+    return filling(**{name: told for name, told in frame.items() if name != "hardest"})
+
+
 class Refusals(unittest.TestCase):
-    def check(self, told, *changes):
-        frame = frame_of_four()
-        for change in changes:
-            frame.update(change)
-        answer = make(**frame)
+    def check_answer(self, answer, told):
         self.assertEqual(answer, [told])
         self.assertIs(answer.__class__, list)
+        self.assertIs(answer[0].__class__, int)
+
+    def check_make(self, told, *changes):
+        self.check_answer(make(**changed_frame(changes)), told)
+
+    def check_filling(self, told, *changes):
+        self.check_answer(filling_of(changed_frame(changes)), told)
+
+    def check(self, told, *changes):
+        self.check_make(told, *changes)
+        self.check_filling(told, *changes)
 
     def check_made(self, **changes):
-        answer = make(**dict(frame_of_four(), **changes))
+        answer = make(**changed_frame([changes]))
         self.assertEqual(len(answer), 82)
         self.assertGreaterEqual(answer[0], 0)
         return answer
 
+    def check_filled(self, **changes):
+        answer = filling_of(changed_frame([changes]))
+        self.assertEqual(len(answer), 82)
+        self.assertEqual(answer[0], 0)
+        return answer
+
+    def check_not_refused(self, **changes):
+        self.check_made(**changes)
+        self.check_filled(**changes)
+
     def test_the_frame_itself_is_not_refused(self):
-        self.check_made()
+        self.check_not_refused()
 
     def test_size(self):
         for n in (0, 1, 10, 11, 81, 255, 256, 4294967295):
-            self.assertEqual(make(n, 0, 4, [], [], [], []), [-22])
-            self.assertEqual(make(n, 5, 0, [], [], [], []), [-22])
+            for seed in (0, 5, 2 ** 64 - 1):
+                for hardest in (0, 1, 4, 7):
+                    self.check_answer(make(n, seed, hardest, [], [], [], []), -22)
+                self.check_answer(filling(n, seed, [], [], [], []), -22)
 
     def test_sizes_at_both_ends_are_not_refused(self):
         for n in (2, 9):
-            answer = make(n, 0, 1, no_regions(n), none(n), none(n), none(n))
-            self.assertEqual(len(answer), 82)
+            self.assertEqual(len(make(n, 0, 1, no_regions(n), none(n), none(n), none(n))), 82)
+            self.assertEqual(len(filling(n, 0, no_regions(n), none(n), none(n), none(n))), 82)
 
     def test_regions(self):
         boxes = box_regions(4)
@@ -62,7 +92,7 @@ class Refusals(unittest.TestCase):
             self.check(-71, {"regions": regions})
 
     def test_regions_need_not_hang_together(self):
-        self.check_made(regions=[0, 0, 1, 1, 1, 1, 0, 0, 2, 2, 3, 3, 3, 3, 2, 2])
+        self.check_not_refused(regions=[0, 0, 1, 1, 1, 1, 0, 0, 2, 2, 3, 3, 3, 3, 2, 2])
 
     def test_signs_above_two(self):
         for sign in (3, 4, 254, 255):
@@ -78,10 +108,10 @@ class Refusals(unittest.TestCase):
                 self.check(-72, {"down": with_number(none(4), place, sign)})
 
     def test_signs_beside_the_last_column_and_row(self):
-        self.check_made(right=with_number(none(4), 14, 1))
-        self.check_made(right=with_number(none(4), 2, 2))
-        self.check_made(down=with_number(none(4), 11, 1))
-        self.check_made(down=with_number(none(4), 8, 2))
+        self.check_not_refused(right=with_number(none(4), 14, 1))
+        self.check_not_refused(right=with_number(none(4), 2, 2))
+        self.check_not_refused(down=with_number(none(4), 11, 1))
+        self.check_not_refused(down=with_number(none(4), 8, 2))
 
     def test_given_above_the_size(self):
         for number in (5, 9, 10, 255):
@@ -89,13 +119,15 @@ class Refusals(unittest.TestCase):
                 self.check(-73, {"given": with_number(none(4), place, number)})
 
     def test_given_is_looked_at_for_this_alone(self):
-        plain = self.check_made()
+        made = self.check_made()
+        filled = self.check_filled()
         for given in ([1] * 16, [4] * 16, list(range(1, 5)) * 4, with_number(none(4), 3, 4)):
-            self.assertEqual(self.check_made(given=given), plain)
+            self.assertEqual(self.check_made(given=given), made)
+            self.assertEqual(self.check_filled(given=given), filled)
 
     def test_hardest(self):
         for hardest in (0, 7, 8, 255, 256, 4294967295):
-            self.check(-22, {"hardest": hardest})
+            self.check_make(-22, {"hardest": hardest})
         for hardest in range(1, 7):
             self.check_made(hardest=hardest)
 
@@ -104,31 +136,35 @@ class Refusals(unittest.TestCase):
         self.check(-2, NO_FILLING, {"regions": no_regions(4)})
         # A row has room for three signs in a row, not for a fourth down from its last cell.
         self.check(-2, {"right": [1, 1, 1] + [0] * 13, "down": with_number(none(4), 3, 1)})
-        self.assertEqual(make(2, 0, 1, [0, 1, 1, 0], none(2), none(2), none(2)), [-2])
-        self.assertEqual(make(2, 0, 3, no_regions(2), [1, 0, 1, 0], none(2), none(2)), [-2])
+        for lists in (([0, 1, 1, 0], none(2), none(2)), (no_regions(2), [1, 0, 1, 0], none(2))):
+            self.check_answer(make(2, 0, 1, *lists, none(2)), -2)
+            self.check_answer(filling(2, 0, *lists, none(2)), -2)
 
     def test_no_filling_whatever_the_hardest_kind(self):
         for hardest in range(1, 7):
-            self.check(-2, NO_FILLING, {"hardest": hardest})
+            self.check_make(-2, NO_FILLING, {"hardest": hardest})
 
     def test_the_refusal_told_first_is_answered(self):
         # The last of each kind stands first here, so that each later change leaves those before it due.
-        due = []
-        for told, change in ((-2, NO_FILLING), (-22, WRONG_HARDEST), (-73, WRONG_GIVEN)):
-            due.append(change)
-            self.check(told, *due)
+        due = [NO_FILLING]
+        self.check(-2, *due)
+        due.append(WRONG_HARDEST)
+        self.check_make(-22, *due)
+        due.append(WRONG_GIVEN)
+        self.check(-73, *due)
         for wrong in (WRONG_RIGHT, WRONG_DOWN, {"right": with_number(none(4), 3, 1)}):
             self.check(-72, *due, wrong)
             self.check(-71, *due, wrong, WRONG_REGIONS)
 
     def test_each_two_that_are_due(self):
-        changes = ((-71, WRONG_REGIONS), (-72, WRONG_RIGHT), (-72, WRONG_DOWN), (-73, WRONG_GIVEN),
-                   (-22, WRONG_HARDEST))
+        changes = ((-71, WRONG_REGIONS), (-72, WRONG_RIGHT), (-72, WRONG_DOWN), (-73, WRONG_GIVEN))
         for i, (told, change) in enumerate(changes):
             for later, other in changes[i:]:
                 self.check(told, change, other)
-        for told, change in ((-71, WRONG_REGIONS), (-73, WRONG_GIVEN), (-22, WRONG_HARDEST)):
+            self.check_make(told, change, WRONG_HARDEST)
+        for told, change in ((-71, WRONG_REGIONS), (-73, WRONG_GIVEN)):
             self.check(told, NO_FILLING, change)
+        self.check_make(-22, NO_FILLING, WRONG_HARDEST)
 
 
 if __name__ == "__main__":
