@@ -19,17 +19,25 @@ def first_by_searches(square, patterns, orders):
     filling = filling_without_signs(square, patterns)
     if not filling:
         return 0
-    search = Search(square, patterns, SIGNED)
-    state = search.first_state()
+    searches = signed_searches(square, patterns)
+    state = searches[0].first_state()
     if square.signs:
-        filling = some_filling(search, state.struck(square, 0), orders)
+        filling = some_filling(searches, state.struck(square, 0), orders)
         if not filling:
             return 0
     else:
         row = first_row(square, orders)
         filling = renumbered(square, filling, row)
         settle_cells(square, state, square.units[0], row)
-    return first_from(search, state, orders, filling)
+    return first_from(searches, state, orders, filling)
+
+
+def signed_searches(square, patterns):
+    """The searches that are followed by turns, the one that's quicker for most squares first."""
+    if not patterns:
+        return [Search(square, patterns, SIGNED, True)]
+    # Patterns mostly know better than weights; but where they lead astray, weights are often a way out.
+    return [Search(square, patterns, SIGNED, False), Search(square, patterns, SIGNED, True)]
 
 
 def filling_without_signs(square, patterns):
@@ -40,7 +48,7 @@ def filling_without_signs(square, patterns):
     """
     runs = []
     for unit in square.units:
-        search = Search(square, patterns, PLAIN)
+        search = Search(square, patterns, PLAIN, not patterns)
         state = search.first_state()
         settle_cells(square, state, unit, list(range(1, square.n + 1)))
         runs.append(Run(search, state))
@@ -71,8 +79,9 @@ def renumbered(square, filling, row):
     return sum([1 << n * cell + row[inside.index(number)] - 1 for cell, number in enumerate(inside)])
 
 
-def first_from(search, state, orders, filling):
+def first_from(searches, state, orders, filling):
     """The first filling that the state leaves, by the cells' own orders; some filling that it leaves is told."""
+    search = searches[0]
     square = search.square
     search.narrow(state)
     for cell, order in enumerate(orders):
@@ -81,7 +90,7 @@ def first_from(search, state, orders, filling):
             if filling >> mark & 1:
                 break
             if state.marks >> mark & 1:
-                found = some_filling(search, state.standing(square, mark), orders)
+                found = some_filling(searches, state.standing(square, mark), orders)
                 if found:
                     filling = found
                     break

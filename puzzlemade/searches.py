@@ -10,6 +10,7 @@ PLAIN = 2
 SIGNED = 3
 UNKNOWN = -1
 SLICE = 60
+SLOWER = 4
 
 
 class State:
@@ -36,13 +37,14 @@ class State:
 class Search:
     """The searches in one square by steps up to a kind: PLAIN, which pass over the signs, or SIGNED.
 
-    Groups that came out empty weigh more, and are looked at sooner.
+    If it weighs, groups that came out empty weigh more, and are looked at sooner.
     """
 
-    def __init__(self, square, patterns, hardest):
+    def __init__(self, square, patterns, hardest, weighs):
         self.square = square
         self.patterns = patterns
         self.hardest = hardest
+        self.weighs = weighs
         self.weights = [1] * len(square.groups)
 
     def first_state(self):
@@ -61,8 +63,7 @@ class Search:
                 return
             due = checks_behind(self.square, gone)
             state.marks = settle(self.square, state.marks ^ gone, due, self.hardest)
-        # Patterns know better than weights: where they are kept, weights lead astray.
-        if not state.patterns:
+        if self.weighs:
             self.weights[~state.marks] += 1
 
     def narrowest_group(self, state):
@@ -159,25 +160,42 @@ def uncovered(square, state):
     return gone
 
 
-def some_filling(search, state, orders):
+def some_filling(searches, state, orders):
     """The marks of some filling that the state leaves, or 0.
 
-    Between two parts of the whole search a guess of all numbers of some unit is followed for a while: it often
-    shows a filling at once. That there is none, the whole search alone can tell.
+    Between two parts of the whole searches a guess of all numbers of some unit is followed for a while: it often
+    shows a filling at once. That there is none, the whole searches alone can tell.
     """
-    whole = Run(search, state)
-    found = whole.go_on(SLICE)
+    first = searches[0]
+    first.narrow(state)
+    if state.marks < 0:
+        return 0
+    wholes = [Run(search, state.struck(search.square, 0)) for search in searches]
+    found = wholes[0].go_on(SLICE)
     turns = Turns()
     guesses = 0
     while found == UNKNOWN:
         most = SLICE * turns.following()
-        guess = guessed_unit(search, state, orders, guesses)
+        guess = guessed_unit(first, state, orders, guesses)
         guesses += 1
         if guess.marks >= 0:
-            found = Run(search, guess).go_on(most)
+            found = Run(first, guess).go_on(most)
         if found <= 0:
-            found = whole.go_on(most)
+            found = first_known(wholes, most)
     return found
+
+
+def first_known(wholes, most):
+    """What the first whole search that comes to an end has found; UNKNOWN if behind so many states none does.
+
+    The first of them is the quicker one for most squares, so the others go on more slowly.
+    """
+    for whole in wholes:
+        found = whole.go_on(most)
+        if found != UNKNOWN:
+            return found
+        most = most // SLOWER
+    return UNKNOWN
 
 
 def guessed_unit(search, state, orders, guesses):

@@ -40,24 +40,19 @@ class Frame:
 def first_filling(frame, orders):
     """The first filling by the cells' own orders, cell by cell, or None."""
     numbers = [0] * len(frame.cells)
-
-    def fits(k, v):
-        if any(numbers[p] == v for p in frame.peers[k]):
-            return False
-        numbers[k] = v
-        good = all(not numbers[a] or not numbers[b] or numbers[a] < numbers[b] for a, b in frame.signs if k in (a, b))
-        numbers[k] = 0
-        return good
+    # The cells are filled in order: those before a cell are all that it has to fit.
+    before = [[p for p in frame.peers[k] if p < k] for k in frame.cells]
+    signs = [[sign for sign in frame.signs if max(sign) == k] for k in frame.cells]
 
     def fill(k):
         if k == len(numbers):
             return True
+        taken = [numbers[p] for p in before[k]]
         for v in orders[k]:
-            if fits(k, v):
+            if v not in taken:
                 numbers[k] = v
-                if fill(k + 1):
+                if all(numbers[a] < numbers[b] for a, b in signs[k]) and fill(k + 1):
                     return True
-                numbers[k] = 0
         return False
 
     return numbers if fill(0) else None

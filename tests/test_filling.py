@@ -42,8 +42,8 @@ class AgainstTheWords(unittest.TestCase):
     def test_with_scattered_regions(self):
         filled = 0
         for n in (2, 3, 4, 5):
-            filled += self.hold_for_chances(n, scattered_regions, 0, 20, 40 + n)
-            filled += self.hold_for_chances(n, scattered_regions, 0.05, 20, 50 + n)
+            filled += self.hold_for_chances(n, scattered_regions, 0, 40, 40 + n)
+            filled += self.hold_for_chances(n, scattered_regions, 0.05, 40, 50 + n)
         self.assertGreater(filled, 20)
 
     def test_nine_by_nine(self):
